@@ -79,7 +79,7 @@ func TestUnframeVersion(t *testing.T) {
 	}
 }
 
-// P13.1: each length, with nothing behind it, where one above the most is told ahead of what is missing; and each first byte of one at the text's end, which is no length yet.
+// P13.1: each length, with nothing behind it, where one above the most is told ahead of what is missing.
 func TestUnframeLengths(t *testing.T) {
 	for _, kind := range kinds() {
 		for n := range 65536 {
@@ -92,8 +92,46 @@ func TestUnframeLengths(t *testing.T) {
 			}
 			holdUnframe(t, headed(kind, n), fault)
 		}
+	}
+}
+
+// P13.1, byte by byte from the left: each high byte of a length at the text's end: where it says alone that the length is above the most, whatever the low one would be, that is told ahead of the low one's missing.
+func TestUnframeLengthFirstByte(t *testing.T) {
+	for _, c := range []struct {
+		s     string
+		fault api.Errno
+	}{
+		{"\x15\x03\x03\x40", api.ErrShort}, {"\x15\x03\x03\x41", api.ErrLong},
+		{"\x16\x03\x03\x40", api.ErrShort}, {"\x16\x03\x03\x41", api.ErrLong}, {"\x16\x03\x03\xff", api.ErrLong},
+		{"\x17\x03\x03\x41", api.ErrShort}, {"\x17\x03\x03\x42", api.ErrLong}, {"\x17\x03\x03\x80", api.ErrLong},
+	} {
+		holdUnframe(t, c.s, c.fault)
+	}
+	for _, kind := range kinds() {
 		for high := range 256 {
-			holdUnframe(t, headed(kind, 256*high)[:4], api.ErrShort)
+			fault := api.ErrShort
+			if 256*high > most(kind) {
+				fault = api.ErrLong
+			}
+			holdUnframe(t, headed(kind, 256*high)[:4], fault)
+		}
+	}
+}
+
+// P13.1: a text that ends behind a length's high byte is too long if, and only if, it is so with each low byte behind it.
+func TestUnframeLongStays(t *testing.T) {
+	for _, kind := range kinds() {
+		for high := range 256 {
+			head := headed(kind, 256*high)[:4]
+			_, _, e := rec.Unframe(head)
+			all := true
+			for low := range 256 {
+				_, _, f := rec.Unframe(head + string([]byte{byte(low)}))
+				all = all && f == api.ErrLong
+			}
+			if all != (e == api.ErrLong) {
+				t.Errorf("Unframe of %s = %v; with each byte behind it ErrLong: %v", hexed(head), e, all)
+			}
 		}
 	}
 }
@@ -140,7 +178,7 @@ func TestUnframeOrder(t *testing.T) {
 	for _, first := range []string{"\x00", "\x14", "\x15", "\x16", "\x17", "\x18", "\xff"} {
 		for _, second := range []string{"\x02", "\x03", "\x04"} {
 			for _, third := range []string{"\x02", "\x03", "\x04"} {
-				for _, length := range []string{"\x00\x00", "\x00\x02", "\x40\x00", "\x40\x01", "\x41\x00", "\x41\x01", "\xff\xff"} {
+				for _, length := range []string{"\x00\x00", "\x00\x02", "\x40\x00", "\x40\x01", "\x41\x00", "\x41\x01", "\x42\x00", "\x80\x00", "\xff\xff"} {
 					s := first + second + third + length + "ab"
 					for n := range len(s) + 1 {
 						fault := api.ErrShort
@@ -155,7 +193,10 @@ func TestUnframeOrder(t *testing.T) {
 						case n == 2:
 						case third != "\x03":
 							fault = api.ErrForm
-						case n < 5:
+						case n == 3:
+						case length[0] > '\x41' || length[0] > '\x40' && first != "\x17":
+							fault = api.ErrLong
+						case n == 4:
 						case size > 16640 || size > 16384 && first != "\x17":
 							fault = api.ErrLong
 						case n-5 >= size:
@@ -300,6 +341,8 @@ func FuzzUnframe(f *testing.F) {
 	f.Add("\x15\x03\x03\x00\x02\x02\x28\x16")
 	f.Add(headed(22, 16385) + "a")
 	f.Add(headed(23, 16640))
+	f.Add("\x17\x03\x03\x80")
+	f.Add("\x16\x03\x03\x41")
 	f.Fuzz(func(t *testing.T, s string) {
 		_, _, e := unframed(s)
 		holdUnframe(t, s, e)

@@ -99,6 +99,8 @@ func unframed(s string) (api.Record, string, api.Errno) {
 			return api.Record{}, "", api.ErrKind
 		case (i == 1 || i == 2) && s[i] != 3:
 			return api.Record{}, "", api.ErrForm
+		case i == 3 && 256*int(s[3]) > most(int(s[0])):
+			return api.Record{}, "", api.ErrLong // whatever the byte behind would be
 		case i == 4:
 			n = int(binary.BigEndian.Uint16([]byte(s[3:5])))
 			if n > most(int(s[0])) {
