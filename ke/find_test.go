@@ -100,23 +100,24 @@ func holdUnknown(t testing.TB, l []api.KeRec, want int) {
 	}
 }
 
-// P18.4: each Kind alone: those below NumKes are known, also such as are below 0; all others are not, if they are Crit; none is told that is not.
+// P18.4: each Kind alone: those from 0 to NumKes less 1 are known; all other numbers are not, below 0 and above, and are told if they are Crit; none is told that is not.
 func TestUnknownKinds(t *testing.T) {
 	var all []int
-	for kind := -40000; kind <= 70000; kind++ {
+	for kind := -70000; kind <= 70000; kind++ {
 		all = append(all, kind)
 	}
 	for _, kind := range append(all, noKinds()...) {
-		want := -1
-		if kind >= 8 {
-			want = 0
+		want := 0
+		if slices.Contains([]int{0, 1, 2, 3, 4, 5, 6, 7}, kind) {
+			want = -1
 		}
 		holdUnknown(t, []api.KeRec{{Crit: true, Kind: kind}}, want)
 		holdUnknown(t, []api.KeRec{{Kind: kind}}, -1)
 	}
 	for _, c := range []struct{ kind, want int }{
-		{math.MinInt, -1}, {-1, -1}, {0, -1}, {api.KeWarn, -1}, {api.KePort, -1}, {api.NumKes - 1, -1},
-		{api.NumKes, 0}, {api.NumKes + 1, 0}, {99, 0}, {32767, 0}, {32768, 0}, {65536, 0}, {math.MaxInt, 0},
+		{math.MinInt, 0}, {math.MinInt + 1, 0}, {math.MinInt32, 0}, {-32768, 0}, {-2, 0}, {-1, 0},
+		{0, -1}, {api.KeWarn, -1}, {api.KePort, -1}, {api.NumKes - 1, -1},
+		{api.NumKes, 0}, {api.NumKes + 1, 0}, {99, 0}, {32767, 0}, {32768, 0}, {65536, 0}, {math.MaxInt32, 0}, {math.MaxInt, 0},
 	} {
 		holdUnknown(t, []api.KeRec{{Crit: true, Kind: c.kind, Body: "x"}}, c.want)
 	}
@@ -128,14 +129,26 @@ func TestUnknownPlace(t *testing.T) {
 	holdUnknown(t, []api.KeRec{}, -1)
 	holdUnknown(t, asked(), -1)
 	holdUnknown(t, answered(), -1)
-	unknown := api.KeRec{Crit: true, Kind: 99}
-	for i := range len(answered()) + 1 {
-		holdUnknown(t, slices.Insert(answered(), i, unknown), i)
-		holdUnknown(t, slices.Insert(answered(), i, unknown, unknown), i)
-		holdUnknown(t, append(slices.Insert(answered(), i, unknown), unknown), i)
+	for _, kind := range []int{99, api.NumKes, 32768, math.MaxInt, -1, -32768, math.MinInt} {
+		unknown := api.KeRec{Crit: true, Kind: kind}
+		for i := range len(answered()) + 1 {
+			holdUnknown(t, slices.Insert(answered(), i, unknown), i)
+			holdUnknown(t, slices.Insert(answered(), i, unknown, unknown), i)
+			holdUnknown(t, append(slices.Insert(answered(), i, unknown), unknown), i)
+		}
+		holdUnknown(t, append(empties(5000), unknown), 5000)
 	}
-	holdUnknown(t, append(empties(5000), unknown), 5000)
-	holdUnknown(t, []api.KeRec{{Crit: true, Kind: -1}, {Kind: 99}, {Crit: true, Kind: 7}, {Crit: true, Kind: 8}, {Crit: true, Kind: 99}}, 3)
+}
+
+// P18.4: numbers below 0 among others: the first one that is not known is told, whichever it is; what is not Crit is passed over.
+func TestUnknownBelow(t *testing.T) {
+	below, above := api.KeRec{Crit: true, Kind: -1, Body: "x"}, api.KeRec{Crit: true, Kind: 8}
+	mild, last := api.KeRec{Kind: -1}, api.KeRec{Crit: true, Kind: 7}
+	holdUnknown(t, []api.KeRec{below, {Kind: 99}, last, above, {Crit: true, Kind: 99}}, 0)
+	holdUnknown(t, []api.KeRec{mild, {Kind: 99}, last, above, below}, 3)
+	holdUnknown(t, []api.KeRec{mild, {Kind: 99}, last, below, above}, 3)
+	holdUnknown(t, []api.KeRec{end(), last, mild, below}, 3)
+	holdUnknown(t, []api.KeRec{mild, mild, last, {Kind: math.MinInt}, {Kind: 99}}, -1)
 }
 
 // P18.4: drawn records, by the chapter's words.
@@ -150,6 +163,6 @@ func TestFindDrawn(t *testing.T) {
 			}
 		}
 		holdFind(t, l, kind, want...)
-		holdUnknown(t, l, slices.IndexFunc(l, func(r api.KeRec) bool { return r.Crit && !(r.Kind < 8) }))
+		holdUnknown(t, l, slices.IndexFunc(l, func(r api.KeRec) bool { return r.Crit && uint(r.Kind) > 7 }))
 	}
 }

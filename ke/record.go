@@ -59,6 +59,11 @@ func refused(r api.KeRec) api.Errno {
 	return api.OK
 }
 
+// known says whether a number is a known kind's; those below 0 are no kind's at all, and so not known either.
+func known(kind int) bool {
+	return kind >= 0 && kind < api.NumKes
+}
+
 // head is what stands ahead of a record's Body.
 func head(r api.KeRec) string {
 	kind := r.Kind
